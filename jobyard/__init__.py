@@ -1,0 +1,1 @@
+"""Jobs on machines. The program is asked by jobyard.yard.answers."""
