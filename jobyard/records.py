@@ -42,5 +42,11 @@ class Job:
     def has_copy_on(self, i):
         return i in self.places
 
+    def runs(self):
+        return len(self.places) > 0
+
+    def run_on(self, places):
+        self.places = places
+
     def wait(self):
         self.places = []

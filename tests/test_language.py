@@ -95,6 +95,13 @@ class LanguageTest(unittest.TestCase):
             if isinstance(node, ast.ClassDef):
                 self.assertTrue(all(isinstance(x, (ast.FunctionDef, ast.Pass)) for x in node.body), where)
 
+    def test_a_statement_by_itself_is_a_call(self):
+        for path, text in sources():
+            module = ast.parse(text)
+            for node in ast.walk(module):
+                if isinstance(node, ast.Expr) and node != module.body[0]:
+                    self.assertIsInstance(node.value, ast.Call, f"{path.name}:{node.lineno}")
+
     def test_is_stands_beside_none_true_and_false_alone(self):
         for where, node in nodes_of(ast.Compare):
             if any(isinstance(sign, (ast.Is, ast.IsNot)) for sign in node.ops):

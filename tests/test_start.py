@@ -1,6 +1,7 @@
 import unittest
 
-from helper import START, down, job, machine, numbers
+from helper import (NONE_PLACED, NOT_THERE, START, TURN, WAITS, alone, down, end, free, job, last_told, machine,
+                    numbers, on, placed, room, where)
 from jobyard.yard import Yard, answers
 
 
@@ -28,6 +29,20 @@ class StartTest(unittest.TestCase):
         jobs = [job(j) for j in range(128)]
         told = numbers(*machines, *jobs, START, machine(0), job(0))
         self.assertEqual(told[-3:], [0, 1, 1])
+
+    def test_start_again_in_the_middle(self):
+        told = last_told(6, machine(3), job(4), job(5, copies=9), TURN, START, where(4), where(5), free(3), TURN,
+                         end(4))
+        self.assertEqual(told, [alone(0), NOT_THERE, NOT_THERE, NOT_THERE, NONE_PLACED, NOT_THERE])
+
+    def test_start_again_leaves_nothing_of_what_ran(self):
+        told = last_told(7, machine(3), job(4, copies=4, rank=7), TURN, START, machine(3), job(4), where(4), free(3),
+                         TURN, where(4), free(3))
+        self.assertEqual(told, [alone(1), alone(1), WAITS, room(4, 4, 4, 4), placed(4), on(3), room(3, 3, 3, 3)])
+
+    def test_start_again_forgets_the_row(self):
+        told = last_told(2, machine(3), job(4), job(5), START, machine(3), job(5), job(4), TURN, TURN)
+        self.assertEqual(told, [placed(5), placed(4)])
 
     def test_a_new_yard_has_nothing_before_start(self):
         yard = Yard()
